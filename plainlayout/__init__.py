@@ -1,0 +1,1 @@
+"""Layout as plain text."""

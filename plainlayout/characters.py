@@ -1,0 +1,57 @@
+"""Characters as code points, and the words of a text.
+
+A text is a list of code points throughout the package.
+"""
+
+TAB = 9
+LINE_FEED = 10
+CARRIAGE_RETURN = 13
+BLANK = 32
+HYPHEN = 45
+POINT = 46
+DIGIT_0 = 48
+DIGIT_9 = 57
+CAPITAL_A = 65
+CAPITAL_Z = 90
+SMALL_A = 97
+SMALL_Z = 122
+
+
+def is_white_space(code):
+    return code in (BLANK, TAB, LINE_FEED, CARRIAGE_RETURN)
+
+
+def is_digit(code):
+    return DIGIT_0 <= code <= DIGIT_9
+
+
+def is_capital_letter(code):
+    return CAPITAL_A <= code <= CAPITAL_Z
+
+
+def is_small_letter(code):
+    return SMALL_A <= code <= SMALL_Z
+
+
+def is_letter(code):
+    return is_small_letter(code) or is_capital_letter(code)
+
+
+def to_small_letter(letter):
+    if is_capital_letter(letter):
+        return letter - CAPITAL_A + SMALL_A
+    return letter
+
+
+def words_of(text):
+    words = []
+    word = []
+    for code in text:
+        if not is_white_space(code):
+            word.append(code)
+        elif word:
+            words.append(word)
+            word = []
+    if word:
+        words.append(word)
+    return words

@@ -1,0 +1,124 @@
+"""Pieces of a text, and their best division into lines."""
+
+from plainlayout.characters import BLANK, HYPHEN, words_of
+from plainlayout.hyphenation import positions_of
+
+SPACE_JOINT = "space"
+PLAIN_JOINT = "plain"
+HYPHEN_JOINT = "hyphen"
+
+HYPHEN_COST = 50
+EXCESS_COST = 10000
+
+
+class Piece:
+    def __init__(self, characters, joint):
+        self.characters = characters
+        self.joint = joint
+
+
+def pieces_of(patterns, text):
+    pieces = []
+    for word in words_of(text):
+        pieces.extend(pieces_of_word(patterns, word))
+    return pieces
+
+
+def pieces_of_word(patterns, word):
+    parts = parts_of(word)
+    pieces = []
+    for part in parts[:-1]:
+        pieces.extend(pieces_of_part(patterns, part, PLAIN_JOINT))
+    pieces.extend(pieces_of_part(patterns, parts[-1], SPACE_JOINT))
+    return pieces
+
+
+def parts_of(word):
+    parts = []
+    start = 0
+    for at in range(1, len(word)):
+        if word[at - 1] == HYPHEN and word[at] != HYPHEN:
+            parts.append(word[start:at])
+            start = at
+    parts.append(word[start:])
+    return parts
+
+
+def pieces_of_part(patterns, part, last_joint):
+    pieces = []
+    start = 0
+    for position in positions_of(patterns, part):
+        pieces.append(Piece(part[start:position], HYPHEN_JOINT))
+        start = position
+    pieces.append(Piece(part[start:], last_joint))
+    return pieces
+
+
+def line_text(pieces):
+    text = []
+    for piece in pieces[:-1]:
+        text.extend(piece.characters)
+        if piece.joint == SPACE_JOINT:
+            text.append(BLANK)
+    last = pieces[-1]
+    text.extend(last.characters)
+    if last.joint == HYPHEN_JOINT:
+        text.append(HYPHEN)
+    return text
+
+
+def allowed_lengths(width, pieces, start):
+    # The lengths of the allowed lines from this piece on, with one piece, with two and so on.
+    lengths = []
+    length = 0
+    for piece in pieces[start:]:
+        length += len(piece.characters)
+        shown = length + 1 if piece.joint == HYPHEN_JOINT else length
+        # With each further piece a line grows, so that no longer one is allowed either.
+        if lengths and shown > width:
+            break
+        lengths.append(shown)
+        if piece.joint == SPACE_JOINT:
+            length += 1
+    return lengths
+
+
+def line_cost(width, length, joint, is_last):
+    if length > width:
+        result = EXCESS_COST * (length - width)
+    elif is_last:
+        result = 0
+    else:
+        result = (width - length) ** 2
+    if joint == HYPHEN_JOINT:
+        result += HYPHEN_COST
+    return result
+
+
+def best_counts(width, pieces):
+    # From the end on: what follows a line has its own best division already.
+    costs = [0] * (len(pieces) + 1)
+    firsts = [0] * len(pieces)
+    for start in range(len(pieces) - 1, -1, -1):
+        for count, length in enumerate(allowed_lengths(width, pieces, start), start=1):
+            end = start + count
+            total = line_cost(width, length, pieces[end - 1].joint, end == len(pieces)) + costs[end]
+            # Of equal costs the later one counts, as its line has more pieces.
+            if count == 1 or total <= costs[start]:
+                costs[start] = total
+                firsts[start] = count
+    counts = []
+    at = 0
+    while at < len(pieces):
+        counts.append(firsts[at])
+        at += firsts[at]
+    return counts
+
+
+def lines_of(pieces, counts):
+    lines = []
+    start = 0
+    for count in counts:
+        lines.append(line_text(pieces[start:start + count]))
+        start += count
+    return lines

@@ -1,0 +1,44 @@
+"""The operations: each one takes numbers and lists of bytes and answers a list of numbers."""
+
+from plainlayout.characters import LINE_FEED
+from plainlayout.hyphenation import patterns_of, positions_of
+from plainlayout.lines import best_counts, lines_of, pieces_of
+from plainlayout.refusals import OutOfRange, Refusal
+from plainlayout.utf8 import read_utf8, write_utf8
+
+LEAST_WIDTH = 10
+GREATEST_WIDTH = 80
+
+
+def hyphenate(patterns, word):
+    try:
+        known = patterns_of(read_utf8(patterns))
+        positions = positions_of(known, read_utf8(word))
+    except Refusal as refusal:
+        return [refusal.answer]
+    return [len(positions)] + positions
+
+
+def break_text(width, patterns, text):
+    try:
+        check_width(width)
+        known = patterns_of(read_utf8(patterns))
+        pieces = pieces_of(known, read_utf8(text))
+    except Refusal as refusal:
+        return [refusal.answer]
+    return answer_lines(lines_of(pieces, best_counts(width, pieces)))
+
+
+def check_width(width):
+    if not LEAST_WIDTH <= width <= GREATEST_WIDTH:
+        raise OutOfRange()
+
+
+def answer_lines(lines):
+    text = []
+    for number, line in enumerate(lines):
+        if number > 0:
+            text.append(LINE_FEED)
+        text.extend(line)
+    octets = write_utf8(text)
+    return [len(octets)] + octets

@@ -1,0 +1,142 @@
+"""The rules of the language that can be counted, for the files of the package."""
+
+import ast
+import builtins
+import pathlib
+import re
+import unittest
+
+FOLDER = pathlib.Path(__file__).resolve().parent.parent / "plainlayout"
+
+# L8 without `chr` (L27).
+OWN_NAMES = set("""len range enumerate zip min max sum abs sorted reversed int str bool list tuple dict set frozenset
+    isinstance ord repr any all divmod Exception ValueError TypeError KeyError IndexError LookupError
+    ZeroDivisionError ArithmeticError OverflowError RuntimeError NotImplementedError AttributeError StopIteration
+    """.split())
+
+# L25, then the values of L26.
+OWN_METHODS = set("""append clear copy count endswith extend find get index insert isalnum isalpha isdigit islower
+    isspace isupper items join keys ljust lower lstrip partition pop remove replace reverse rfind rjust rpartition
+    rsplit rstrip setdefault split splitlines startswith strip update upper values zfill bit_length
+    count index title find get join lower upper split strip copy add discard
+    __init__ __eq__ __repr__ __str__ __len__""".split())
+
+NODES = set("""Module Expr Call Name Load Store Attribute Constant arguments arg keyword alias Import ImportFrom
+    FunctionDef ClassDef Lambda Assign AugAssign AnnAssign If While For Return Break Continue Pass Raise Try
+    ExceptHandler List Tuple Dict Set Subscript Slice ListComp comprehension JoinedStr FormattedValue IfExp
+    BinOp UnaryOp BoolOp Compare And Or Not USub Invert Add Sub Mult FloorDiv Mod Pow BitAnd BitOr BitXor LShift RShift
+    Eq NotEq Lt LtE Gt GtE Is IsNot In NotIn""".split())
+
+
+def files():
+    return sorted(path for path in FOLDER.rglob("*") if path.is_file() and path.suffix != ".pyc")
+
+
+def trees():
+    return [(path, ast.parse(path.read_text())) for path in files()]
+
+
+def imports(tree):
+    return [node for node in tree.body if isinstance(node, ast.ImportFrom)]
+
+
+def module_name(path):
+    return "plainlayout." + path.stem
+
+
+class LanguageTest(unittest.TestCase):
+    def test_files(self):
+        self.assertTrue((FOLDER / "__init__.py").is_file())
+        for path in files():
+            self.assertRegex(path.name, r"\A([a-z][a-z0-9_]*|__init__|__main__)\.py\Z")
+            self.assertEqual(path.parent, FOLDER)
+            self.assertFalse(path.stem.startswith("test"))
+            self.assertNotIn(path.stem, dir(builtins))
+
+    def test_signs_and_sizes(self):
+        for path in files():
+            text = path.read_bytes().decode("utf-8")
+            self.assertRegex(text, r"\A[ -~\n]*\Z")
+            rows = text.split("\n")
+            self.assertLessEqual(len(rows), 399, path)
+            self.assertLessEqual(max(len(row) for row in rows), 120, path)
+
+    def test_functions_are_short(self):
+        for path, tree in trees():
+            for node in ast.walk(tree):
+                if isinstance(node, ast.FunctionDef):
+                    self.assertLessEqual(node.end_lineno - node.lineno + 1, 40, (path.name, node.name))
+                    self.assertEqual(node.decorator_list, [])
+
+    def test_the_parts_of_the_language(self):
+        for path, tree in trees():
+            for node in ast.walk(tree):
+                place = (path.name, getattr(node, "lineno", 0), type(node).__name__)
+                self.assertIn(type(node).__name__, NODES, place)
+                if isinstance(node, ast.Constant):
+                    self.assertNotIsInstance(node.value, (float, bytes, complex), place)
+                if isinstance(node, (ast.For, ast.While)):
+                    self.assertEqual(node.orelse, [], place)
+                if isinstance(node, ast.Assign):
+                    self.assertEqual(len(node.targets), 1, place)
+                if isinstance(node, ast.Try):
+                    self.assertEqual(node.finalbody, [], place)
+
+    def test_names(self):
+        for path, tree in trees():
+            bound = {alias.asname or alias.name for node in imports(tree) for alias in node.names}
+            classes = {node.name for node in tree.body if isinstance(node, ast.ClassDef)}
+            taken = bound | classes | set(dir(builtins))
+            defined = {node.name for node in ast.walk(tree) if isinstance(node, (ast.FunctionDef, ast.ClassDef))}
+            stored = {node.id for node in ast.walk(tree) if isinstance(node, ast.Name) and
+                      isinstance(node.ctx, ast.Store)}
+            stored |= {node.arg for node in ast.walk(tree) if isinstance(node, ast.arg)}
+            stored |= {node.name for node in ast.walk(tree) if isinstance(node, ast.ExceptHandler) and node.name}
+            self.assertEqual(stored & taken, set(), path.name)
+            for name in stored | defined:
+                self.assertTrue(re.match("[A-Za-z]", name) or name in OWN_METHODS, (path.name, name))
+            used = {node.id for node in ast.walk(tree) if isinstance(node, ast.Name)}
+            allowed = OWN_NAMES | ({"print", "sys", "__name__"} if path.stem == "__main__" else set())
+            self.assertEqual(used - stored - defined - bound - allowed, set(), path.name)
+
+    def test_methods_of_pythons_own_values(self):
+        others = set()
+        for kind in (str, int, list, tuple, dict, set, bytes):
+            others |= set(dir(kind))
+        for path, tree in trees():
+            for node in ast.walk(tree):
+                if isinstance(node, ast.Attribute):
+                    self.assertNotIn(node.attr, others - OWN_METHODS, (path.name, node.lineno))
+
+    def test_imports(self):
+        drawn = {}
+        defined = {}
+        for path, tree in trees():
+            name = module_name(path)
+            defined[name] = {node.name for node in tree.body if isinstance(node, (ast.FunctionDef, ast.ClassDef))}
+            defined[name] |= {node.targets[0].id for node in tree.body if isinstance(node, ast.Assign)}
+            drawn[name] = imports(tree)
+            for node in ast.walk(tree):
+                if isinstance(node, ast.Import):
+                    self.assertEqual((path.stem, [alias.name for alias in node.names]), ("__main__", ["sys"]))
+        for name in drawn:
+            for node in drawn[name]:
+                self.assertEqual(node.level, 0)
+                for alias in node.names:
+                    self.assertIn(alias.name, defined[node.module], name)
+        for name in drawn:
+            self.assertNotIn(name, self.reached(drawn, name))
+
+    def reached(self, drawn, name):
+        found = set()
+        waiting = [name]
+        while waiting:
+            for node in drawn[waiting.pop()]:
+                if node.module not in found:
+                    found.add(node.module)
+                    waiting.append(node.module)
+        return found
+
+
+if __name__ == "__main__":
+    unittest.main()

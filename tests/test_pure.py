@@ -1,0 +1,81 @@
+"""What is handed in stays as it was, and nothing is kept from one call to the next."""
+
+import unittest
+
+import reference
+from plainlayout.typesetting import break_text, hyphenate
+
+PATTERNS = reference.octets("hy3ph he2n .be5t b1 1c")
+WORD = reference.octets("HyphenBetter")
+TEXT = reference.octets("  a better hyphen-ation, \u20ac\u20ac and cbcbcbcbcbcbcbcb--bcbcbcbc\n")
+
+HYPHENATE_CALLS = ((PATTERNS, WORD), ([], WORD), (PATTERNS, []), ([], []), ([65], WORD), (PATTERNS, [0xFF]),
+                   ([0xFF], WORD), (reference.octets("a1 " * 200), [97] * 600))
+BREAK_CALLS = ((10, PATTERNS, TEXT), (80, PATTERNS, TEXT), (10, [], TEXT), (10, PATTERNS, []), (10, [], []),
+               (9, PATTERNS, TEXT), (10, [65], TEXT), (10, PATTERNS, [0xFF]), (10, [0xFF], TEXT),
+               (17, reference.octets("a1 " * 200), [97] * 600))
+
+
+class Watched(list):
+    """A list that tells of every try to change it."""
+
+    def refuse(self, *others, **named):
+        raise AssertionError("what was handed in was changed")
+
+    __setitem__ = __delitem__ = __iadd__ = __imul__ = refuse
+    append = clear = extend = insert = pop = remove = reverse = sort = refuse
+
+
+def watched(call):
+    return [Watched(value) if isinstance(value, list) else value for value in call]
+
+
+def copied(call):
+    return [list(value) if isinstance(value, list) else value for value in call]
+
+
+class PureTest(unittest.TestCase):
+    def calls(self):
+        return [(hyphenate, call) for call in HYPHENATE_CALLS] + [(break_text, call) for call in BREAK_CALLS]
+
+    def test_what_was_handed_in_stays(self):
+        for function, call in self.calls():
+            handed = copied(call)
+            function(*handed)
+            self.assertEqual(handed, copied(call))
+
+    def test_what_was_handed_in_is_not_changed_for_a_while(self):
+        for function, call in self.calls():
+            self.assertEqual(function(*watched(call)), function(*copied(call)))
+
+    def test_a_second_call_answers_like_the_first(self):
+        first = [function(*copied(call)) for function, call in self.calls()]
+        second = [function(*copied(call)) for function, call in self.calls()]
+        backwards = [function(*copied(call)) for function, call in reversed(self.calls())]
+        self.assertEqual(first, second)
+        self.assertEqual(first, backwards[::-1])
+
+    def test_the_same_lists_twice(self):
+        for function, call in self.calls():
+            handed = copied(call)
+            self.assertEqual(function(*handed), function(*handed))
+
+    def test_an_answer_is_the_callers_own(self):
+        for function, call in self.calls():
+            handed = copied(call)
+            answer = function(*handed)
+            wanted = list(answer)
+            answer.append(7)
+            answer[0] = 99
+            self.assertEqual(function(*handed), wanted)
+            self.assertEqual(handed, copied(call))
+
+    def test_one_list_for_both_texts(self):
+        octets = reference.octets("b1 abab")
+        self.assertEqual(break_text(10, octets, octets), [7] + octets)
+        octets = reference.octets("abab")
+        self.assertEqual(hyphenate(octets, octets), [0])
+
+
+if __name__ == "__main__":
+    unittest.main()
