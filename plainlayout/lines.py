@@ -1,4 +1,4 @@
-"""Pieces of a text, and their best division into lines."""
+"""Pieces of a text, and their divisions into lines."""
 
 from plainlayout.characters import BLANK, HYPHEN, words_of
 from plainlayout.hyphenation import positions_of
@@ -113,6 +113,27 @@ def best_counts(width, pieces):
         counts.append(firsts[at])
         at += firsts[at]
     return counts
+
+
+def greedy_counts(width, pieces):
+    counts = []
+    at = 0
+    while at < len(pieces):
+        # An allowed line that doesn't fit has one piece, so the allowed line with most pieces is the greedy one.
+        counts.append(len(allowed_lengths(width, pieces, at)))
+        at += counts[-1]
+    return counts
+
+
+def division_cost(width, pieces, counts):
+    total = 0
+    start = 0
+    for count in counts:
+        end = start + count
+        length = len(line_text(pieces[start:end]))
+        total += line_cost(width, length, pieces[end - 1].joint, end == len(pieces))
+        start = end
+    return total
 
 
 def lines_of(pieces, counts):

@@ -2,7 +2,7 @@
 
 from plainlayout.characters import LINE_FEED
 from plainlayout.hyphenation import patterns_of, positions_of
-from plainlayout.lines import best_counts, lines_of, pieces_of
+from plainlayout.lines import best_counts, division_cost, greedy_counts, lines_of, pieces_of
 from plainlayout.refusals import OutOfRange, Refusal
 from plainlayout.utf8 import read_utf8, write_utf8
 
@@ -21,12 +21,34 @@ def hyphenate(patterns, word):
 
 def break_text(width, patterns, text):
     try:
-        check_width(width)
-        known = patterns_of(read_utf8(patterns))
-        pieces = pieces_of(known, read_utf8(text))
+        pieces = checked_pieces(width, patterns, text)
     except Refusal as refusal:
         return [refusal.answer]
     return answer_lines(lines_of(pieces, best_counts(width, pieces)))
+
+
+def cost(width, patterns, text):
+    try:
+        pieces = checked_pieces(width, patterns, text)
+    except Refusal as refusal:
+        return [refusal.answer]
+    counts = best_counts(width, pieces)
+    return [division_cost(width, pieces, counts), len(counts)]
+
+
+def greedy_text(width, patterns, text):
+    try:
+        pieces = checked_pieces(width, patterns, text)
+    except Refusal as refusal:
+        return [refusal.answer]
+    return answer_lines(lines_of(pieces, greedy_counts(width, pieces)))
+
+
+def checked_pieces(width, patterns, text):
+    # The order of these checks is the order in which errors count.
+    check_width(width)
+    known = patterns_of(read_utf8(patterns))
+    return pieces_of(known, read_utf8(text))
 
 
 def check_width(width):

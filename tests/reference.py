@@ -119,3 +119,24 @@ def best(width, of):
 def broken(width, patterns, text):
     of = pieces(patterns, text)
     return as_answer(lines(of, best(width, of)))
+
+
+def cost_answer(width, patterns, text):
+    of = pieces(patterns, text)
+    counts = best(width, of)
+    return [division_cost(width, of, counts), len(counts)]
+
+
+def greedy(width, of):
+    """The greedy division, found by a look at every number of pieces that a line could have."""
+    counts = []
+    while sum(counts) < len(of):
+        rest = of[sum(counts):]
+        fitting = [count for count in range(1, min(len(rest), width) + 1) if len(line(rest[:count])) <= width]
+        counts.append(max(fitting, default=1))
+    return counts
+
+
+def greedy_answer(width, patterns, text):
+    of = pieces(patterns, text)
+    return as_answer(lines(of, greedy(width, of)))

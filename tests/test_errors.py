@@ -4,7 +4,7 @@ import itertools
 import unittest
 
 import reference
-from plainlayout.typesetting import break_text, hyphenate
+from plainlayout.typesetting import break_text, cost, greedy_text, hyphenate
 
 NOT_PATTERNS = ("A", "aB", "a1B", "12a", "a12", "a12b", "1", "9", "1 a", "a 1", "a b 22", "a-b", "a,b", "\u00e4",
                 "a\u00e9", "\u0661a", "a\u0663", "\u00b2a", "a\u0000", "a\u00a0b", "a\u000bb", "\u000c", "{", "`", "@",
@@ -31,21 +31,37 @@ NOT_UTF8 = (
 
 WRONG_WIDTHS = (0, 1, 9, 81, 82, 100, 255, 4294967295)
 
+# Those that take a width, patterns and a text.
+OPERATIONS = (break_text, cost, greedy_text)
+
 
 class ErrorsTest(unittest.TestCase):
+    def check(self, wanted, width, patterns, text):
+        for operation in OPERATIONS:
+            with self.subTest(operation=operation, width=width, patterns=patterns, text=text):
+                self.assertEqual(operation(width, patterns, text), wanted)
+
+    def check_valid(self, width, patterns, text):
+        for operation in OPERATIONS:
+            with self.subTest(operation=operation, width=width, patterns=patterns, text=text):
+                self.assertGreaterEqual(operation(width, patterns, text)[0], 0)
+
     def test_widths(self):
         for width in WRONG_WIDTHS:
-            self.assertEqual(break_text(width, [], [97]), [-22])
+            self.check([-22], width, [], [97])
         for width in range(10, 81):
+            self.check_valid(width, [], [97])
             self.assertEqual(break_text(width, [], [97]), [1, 97])
+            self.assertEqual(cost(width, [], [97]), [0, 1])
+            self.assertEqual(greedy_text(width, [], [97]), [1, 97])
 
     def test_the_width_is_checked_first(self):
         for width in WRONG_WIDTHS:
-            self.assertEqual(break_text(width, [0xFF], [97]), [-22])
-            self.assertEqual(break_text(width, [65], [97]), [-22])
-            self.assertEqual(break_text(width, [], [0xFF]), [-22])
-            self.assertEqual(break_text(width, [65], [0xFF]), [-22])
-            self.assertEqual(break_text(width, [], []), [-22])
+            self.check([-22], width, [0xFF], [97])
+            self.check([-22], width, [65], [97])
+            self.check([-22], width, [], [0xFF])
+            self.check([-22], width, [65], [0xFF])
+            self.check([-22], width, [], [])
 
     def test_bytes_that_are_not_utf8(self):
         for wrong in NOT_UTF8:
@@ -53,15 +69,15 @@ class ErrorsTest(unittest.TestCase):
                 with self.subTest(octets=octets):
                     self.assertEqual(hyphenate(octets, [97]), [-24])
                     self.assertEqual(hyphenate([], octets), [-24])
-                    self.assertEqual(break_text(10, octets, [97]), [-24])
-                    self.assertEqual(break_text(10, [], octets), [-24])
+                self.check([-24], 10, octets, [97])
+                self.check([-24], 10, [], octets)
 
     def test_at_the_end_of_a_long_list(self):
         octets = [97] * 599 + [0xC3]
         self.assertEqual(hyphenate(octets, []), [-24])
         self.assertEqual(hyphenate([], octets), [-24])
-        self.assertEqual(break_text(10, octets, []), [-24])
-        self.assertEqual(break_text(10, [], octets), [-24])
+        self.check([-24], 10, octets, [])
+        self.check([-24], 10, [], octets)
 
     def test_all_pairs_of_bytes(self):
         for octets in itertools.product(range(256), repeat=2):
@@ -87,41 +103,48 @@ class ErrorsTest(unittest.TestCase):
     def test_patterns_that_are_not_patterns(self):
         for wrong in NOT_PATTERNS:
             for patterns in (wrong, f"a1b {wrong}", f"{wrong} a1b", f"\n{wrong}\t"):
+                octets = reference.octets(patterns)
                 with self.subTest(patterns=patterns):
-                    octets = reference.octets(patterns)
                     self.assertEqual(hyphenate(octets, [97]), [-21])
-                    self.assertEqual(break_text(10, octets, [97]), [-21])
+                self.check([-21], 10, octets, [97])
 
     def test_each_character_of_patterns(self):
         for code in range(128):
             letter = chr(code)
-            fits = letter.islower() or letter in ". \t\n\r" or letter.isdigit()
             octets = reference.octets(f"a{letter}b")
-            self.assertEqual(hyphenate(octets, []), [0] if fits else [-21])
-            self.assertEqual(break_text(10, octets, []), [0] if fits else [-21])
+            if letter.islower() or letter in ". \t\n\r" or letter.isdigit():
+                self.assertEqual(hyphenate(octets, []), [0])
+                self.check_valid(10, octets, [])
+            else:
+                self.assertEqual(hyphenate(octets, []), [-21])
+                self.check([-21], 10, octets, [])
 
     def test_patterns(self):
         for patterns in ("", " ", "a", ".", "..", "1.", ".1", "1.2.3", "0a0", "1a2b3c4", ".a.b.", "a " * 300,
                          "a1" * 300, "a1 1a", "a1\t1a\r\n9."):
-            self.assertEqual(hyphenate(reference.octets(patterns), []), [0])
-            self.assertEqual(break_text(10, reference.octets(patterns), []), [0])
+            octets = reference.octets(patterns)
+            self.assertEqual(hyphenate(octets, []), [0])
+            self.assertEqual(break_text(10, octets, []), [0])
+            self.assertEqual(cost(10, octets, []), [0, 0])
+            self.assertEqual(greedy_text(10, octets, []), [0])
 
     def test_the_patterns_are_checked_without_need_of_them(self):
         self.assertEqual(hyphenate([65], []), [-21])
-        self.assertEqual(break_text(10, [65], []), [-21])
-        self.assertEqual(break_text(10, [65], [32]), [-21])
+        self.check([-21], 10, [65], [])
+        self.check([-21], 10, [65], [32])
 
     def test_the_patterns_are_checked_ahead_of_the_text(self):
         self.assertEqual(hyphenate([65], [0xFF]), [-21])
-        self.assertEqual(break_text(10, [65], [0xFF]), [-21])
+        self.check([-21], 10, [65], [0xFF])
         self.assertEqual(hyphenate([0xFF], [0xFF]), [-24])
-        self.assertEqual(break_text(10, [0xFF], [0xFF]), [-24])
+        self.check([-24], 10, [0xFF], [0xFF])
 
     def test_patterns_must_be_utf8_first(self):
         self.assertEqual(hyphenate([65, 32, 0xFF], [97]), [-24])
         self.assertEqual(hyphenate([49, 49, 32, 0x80], [97]), [-24])
-        self.assertEqual(break_text(10, [65, 32, 0xFF], [97]), [-24])
-        self.assertEqual(break_text(10, [0xFF, 32, 65], [97]), [-24])
+        self.check([-24], 10, [65, 32, 0xFF], [97])
+        self.check([-24], 10, [49, 49, 32, 0x80], [97])
+        self.check([-24], 10, [0xFF, 32, 65], [97])
 
 
 if __name__ == "__main__":

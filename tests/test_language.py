@@ -28,6 +28,15 @@ NODES = set("""Module Expr Call Name Load Store Attribute Constant arguments arg
     Eq NotEq Lt LtE Gt GtE Is IsNot In NotIn""".split())
 
 
+# The functions of the document's interface, with their parameters.
+INTERFACE = {
+    "hyphenate": ["patterns", "word"],
+    "break_text": ["width", "patterns", "text"],
+    "cost": ["width", "patterns", "text"],
+    "greedy_text": ["width", "patterns", "text"],
+}
+
+
 def files():
     return sorted(path for path in FOLDER.rglob("*") if path.is_file() and path.suffix != ".pyc")
 
@@ -126,6 +135,16 @@ class LanguageTest(unittest.TestCase):
                     self.assertIn(alias.name, defined[node.module], name)
         for name in drawn:
             self.assertNotIn(name, self.reached(drawn, name))
+
+    def test_the_interface_stands_in_its_own_file(self):
+        found = {}
+        for path, tree in trees():
+            for node in tree.body:
+                if isinstance(node, (ast.FunctionDef, ast.ClassDef)) and node.name in INTERFACE:
+                    self.assertEqual(path.stem, "typesetting", node.name)
+                    self.assertEqual(node.args.defaults, [], node.name)
+                    found[node.name] = [parameter.arg for parameter in node.args.args]
+        self.assertEqual(found, INTERFACE)
 
     def reached(self, drawn, name):
         found = set()

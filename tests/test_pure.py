@@ -3,7 +3,7 @@
 import unittest
 
 import reference
-from plainlayout.typesetting import break_text, hyphenate
+from plainlayout.typesetting import break_text, cost, greedy_text, hyphenate
 
 PATTERNS = reference.octets("hy3ph he2n .be5t b1 1c")
 WORD = reference.octets("HyphenBetter")
@@ -11,9 +11,11 @@ TEXT = reference.octets("  a better hyphen-ation, \u20ac\u20ac and cbcbcbcbcbcbc
 
 HYPHENATE_CALLS = ((PATTERNS, WORD), ([], WORD), (PATTERNS, []), ([], []), ([65], WORD), (PATTERNS, [0xFF]),
                    ([0xFF], WORD), (reference.octets("a1 " * 200), [97] * 600))
-BREAK_CALLS = ((10, PATTERNS, TEXT), (80, PATTERNS, TEXT), (10, [], TEXT), (10, PATTERNS, []), (10, [], []),
-               (9, PATTERNS, TEXT), (10, [65], TEXT), (10, PATTERNS, [0xFF]), (10, [0xFF], TEXT),
-               (17, reference.octets("a1 " * 200), [97] * 600))
+DIVIDING_CALLS = ((10, PATTERNS, TEXT), (80, PATTERNS, TEXT), (10, [], TEXT), (10, PATTERNS, []),
+                  (10, [], []), (9, PATTERNS, TEXT), (10, [65], TEXT), (10, PATTERNS, [0xFF]), (10, [0xFF], TEXT),
+                  (17, reference.octets("a1 " * 200), [97] * 600))
+CALLS = [(hyphenate, call) for call in HYPHENATE_CALLS]
+CALLS += [(operation, call) for operation in (break_text, cost, greedy_text) for call in DIVIDING_CALLS]
 
 
 class Watched(list):
@@ -35,33 +37,30 @@ def copied(call):
 
 
 class PureTest(unittest.TestCase):
-    def calls(self):
-        return [(hyphenate, call) for call in HYPHENATE_CALLS] + [(break_text, call) for call in BREAK_CALLS]
-
     def test_what_was_handed_in_stays(self):
-        for function, call in self.calls():
+        for function, call in CALLS:
             handed = copied(call)
             function(*handed)
             self.assertEqual(handed, copied(call))
 
     def test_what_was_handed_in_is_not_changed_for_a_while(self):
-        for function, call in self.calls():
+        for function, call in CALLS:
             self.assertEqual(function(*watched(call)), function(*copied(call)))
 
     def test_a_second_call_answers_like_the_first(self):
-        first = [function(*copied(call)) for function, call in self.calls()]
-        second = [function(*copied(call)) for function, call in self.calls()]
-        backwards = [function(*copied(call)) for function, call in reversed(self.calls())]
+        first = [function(*copied(call)) for function, call in CALLS]
+        second = [function(*copied(call)) for function, call in CALLS]
+        backwards = [function(*copied(call)) for function, call in reversed(CALLS)]
         self.assertEqual(first, second)
         self.assertEqual(first, backwards[::-1])
 
     def test_the_same_lists_twice(self):
-        for function, call in self.calls():
+        for function, call in CALLS:
             handed = copied(call)
             self.assertEqual(function(*handed), function(*handed))
 
     def test_an_answer_is_the_callers_own(self):
-        for function, call in self.calls():
+        for function, call in CALLS:
             handed = copied(call)
             answer = function(*handed)
             wanted = list(answer)
@@ -73,6 +72,8 @@ class PureTest(unittest.TestCase):
     def test_one_list_for_both_texts(self):
         octets = reference.octets("b1 abab")
         self.assertEqual(break_text(10, octets, octets), [7] + octets)
+        self.assertEqual(cost(10, octets, octets), [0, 1])
+        self.assertEqual(greedy_text(10, octets, octets), [7] + octets)
         octets = reference.octets("abab")
         self.assertEqual(hyphenate(octets, octets), [0])
 
