@@ -1,4 +1,4 @@
-"""Characters as code points, and the words of a text.
+"""Characters as code points, and the words and the lines of a text.
 
 A text is a list of code points throughout the package.
 """
@@ -55,3 +55,13 @@ def words_of(text):
     if word:
         words.append(word)
     return words
+
+
+def split_at_line_feeds(text):
+    parts = [[]]
+    for code in text:
+        if code == LINE_FEED:
+            parts.append([])
+        else:
+            parts[-1].append(code)
+    return parts

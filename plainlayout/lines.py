@@ -2,6 +2,7 @@
 
 from plainlayout.characters import BLANK, HYPHEN, words_of
 from plainlayout.hyphenation import positions_of
+from plainlayout.refusals import NotFitting
 
 SPACE_JOINT = "space"
 PLAIN_JOINT = "plain"
@@ -130,9 +131,15 @@ def division_cost(width, pieces, counts):
     start = 0
     for count in counts:
         end = start + count
+        if count == 0 or end > len(pieces):
+            raise NotFitting()
         length = len(line_text(pieces[start:end]))
+        if length > width and count > 1:
+            raise NotFitting()
         total += line_cost(width, length, pieces[end - 1].joint, end == len(pieces))
         start = end
+    if start < len(pieces):
+        raise NotFitting()
     return total
 
 

@@ -19,3 +19,8 @@ class OutOfRange(Refusal):
 class NotUtf8(Refusal):
     def __init__(self):
         Refusal.__init__(self, -24)
+
+
+class NotFitting(Refusal):
+    def __init__(self):
+        Refusal.__init__(self, -33)

@@ -1,7 +1,8 @@
 """The operations: each one takes numbers and lists of bytes and answers a list of numbers."""
 
-from plainlayout.characters import LINE_FEED
+from plainlayout.characters import LINE_FEED, split_at_line_feeds
 from plainlayout.hyphenation import patterns_of, positions_of
+from plainlayout.justification import justified_line
 from plainlayout.lines import best_counts, division_cost, greedy_counts, lines_of, pieces_of
 from plainlayout.refusals import OutOfRange, Refusal
 from plainlayout.utf8 import read_utf8, write_utf8
@@ -42,6 +43,22 @@ def greedy_text(width, patterns, text):
     except Refusal as refusal:
         return [refusal.answer]
     return answer_lines(lines_of(pieces, greedy_counts(width, pieces)))
+
+
+def cost_of(width, patterns, text, counts):
+    try:
+        return [division_cost(width, checked_pieces(width, patterns, text), counts)]
+    except Refusal as refusal:
+        return [refusal.answer]
+
+
+def justify(width, text):
+    try:
+        check_width(width)
+        lines = split_at_line_feeds(read_utf8(text))
+    except Refusal as refusal:
+        return [refusal.answer]
+    return answer_lines([justified_line(width, line) for line in lines])
 
 
 def checked_pieces(width, patterns, text):

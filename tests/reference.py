@@ -140,3 +140,28 @@ def greedy(width, of):
 def greedy_answer(width, patterns, text):
     of = pieces(patterns, text)
     return as_answer(lines(of, greedy(width, of)))
+
+
+def cost_of_answer(width, patterns, text, counts):
+    of = pieces(patterns, text)
+    total = None
+    if min(counts, default=1) > 0 and sum(counts) == len(of):
+        total = division_cost(width, of, counts)
+    return [-33] if total is None else [total]
+
+
+def justified(width, text_line):
+    own = words(text_line)
+    if len(own) < 2 or len(" ".join(own)) > width:
+        return text_line
+    # One more space for one gap after another, until the line has the width.
+    gaps = [" "] * (len(own) - 1)
+    at = 0
+    while len("".join(own + gaps)) < width:
+        gaps[at % len(gaps)] += " "
+        at += 1
+    return "".join(word + gap for word, gap in zip(own, gaps + [""]))
+
+
+def justify_answer(width, text):
+    return as_answer([justified(width, text_line) for text_line in text.split("\n")])

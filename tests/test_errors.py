@@ -4,7 +4,7 @@ import itertools
 import unittest
 
 import reference
-from plainlayout.typesetting import break_text, cost, greedy_text, hyphenate
+from plainlayout.typesetting import break_text, cost, cost_of, greedy_text, hyphenate, justify
 
 NOT_PATTERNS = ("A", "aB", "a1B", "12a", "a12", "a12b", "1", "9", "1 a", "a 1", "a b 22", "a-b", "a,b", "\u00e4",
                 "a\u00e9", "\u0661a", "a\u0663", "\u00b2a", "a\u0000", "a\u00a0b", "a\u000bb", "\u000c", "{", "`", "@",
@@ -31,8 +31,13 @@ NOT_UTF8 = (
 
 WRONG_WIDTHS = (0, 1, 9, 81, 82, 100, 255, 4294967295)
 
-# Those that take a width, patterns and a text.
-OPERATIONS = (break_text, cost, greedy_text)
+
+def with_counts(counts):
+    return lambda width, patterns, text: cost_of(width, patterns, text, list(counts))
+
+
+# Those that take a width, patterns and a text; cost_of with some counts that fit and some that don't.
+OPERATIONS = (break_text, cost, greedy_text) + tuple(with_counts(counts) for counts in ([], [0], [1], [4294967295]))
 
 
 class ErrorsTest(unittest.TestCase):
@@ -41,19 +46,25 @@ class ErrorsTest(unittest.TestCase):
             with self.subTest(operation=operation, width=width, patterns=patterns, text=text):
                 self.assertEqual(operation(width, patterns, text), wanted)
 
-    def check_valid(self, width, patterns, text):
-        for operation in OPERATIONS:
-            with self.subTest(operation=operation, width=width, patterns=patterns, text=text):
-                self.assertGreaterEqual(operation(width, patterns, text)[0], 0)
+    def check_no_words(self, width, patterns):
+        octets = reference.octets(patterns)
+        with self.subTest(width=width, patterns=patterns):
+            self.assertEqual(hyphenate(octets, []), [0])
+            self.assertEqual(break_text(width, octets, []), [0])
+            self.assertEqual(cost(width, octets, []), [0, 0])
+            self.assertEqual(greedy_text(width, octets, []), [0])
+            self.assertEqual(cost_of(width, octets, [], []), [0])
 
     def test_widths(self):
         for width in WRONG_WIDTHS:
             self.check([-22], width, [], [97])
+            self.assertEqual(justify(width, [97]), [-22])
         for width in range(10, 81):
-            self.check_valid(width, [], [97])
             self.assertEqual(break_text(width, [], [97]), [1, 97])
             self.assertEqual(cost(width, [], [97]), [0, 1])
             self.assertEqual(greedy_text(width, [], [97]), [1, 97])
+            self.assertEqual(cost_of(width, [], [97], [1]), [0])
+            self.assertEqual(justify(width, [97]), [1, 97])
 
     def test_the_width_is_checked_first(self):
         for width in WRONG_WIDTHS:
@@ -62,6 +73,8 @@ class ErrorsTest(unittest.TestCase):
             self.check([-22], width, [], [0xFF])
             self.check([-22], width, [65], [0xFF])
             self.check([-22], width, [], [])
+            self.assertEqual(justify(width, [0xFF]), [-22])
+            self.assertEqual(justify(width, []), [-22])
 
     def test_bytes_that_are_not_utf8(self):
         for wrong in NOT_UTF8:
@@ -69,6 +82,7 @@ class ErrorsTest(unittest.TestCase):
                 with self.subTest(octets=octets):
                     self.assertEqual(hyphenate(octets, [97]), [-24])
                     self.assertEqual(hyphenate([], octets), [-24])
+                    self.assertEqual(justify(10, octets), [-24])
                 self.check([-24], 10, octets, [97])
                 self.check([-24], 10, [], octets)
 
@@ -76,6 +90,7 @@ class ErrorsTest(unittest.TestCase):
         octets = [97] * 599 + [0xC3]
         self.assertEqual(hyphenate(octets, []), [-24])
         self.assertEqual(hyphenate([], octets), [-24])
+        self.assertEqual(justify(10, octets), [-24])
         self.check([-24], 10, octets, [])
         self.check([-24], 10, [], octets)
 
@@ -99,6 +114,7 @@ class ErrorsTest(unittest.TestCase):
         except UnicodeDecodeError:
             valid = False
         self.assertEqual(break_text(10, [], octets) != [-24], valid, octets)
+        self.assertEqual(justify(10, octets), [len(octets)] + octets if valid else [-24], octets)
 
     def test_patterns_that_are_not_patterns(self):
         for wrong in NOT_PATTERNS:
@@ -111,22 +127,17 @@ class ErrorsTest(unittest.TestCase):
     def test_each_character_of_patterns(self):
         for code in range(128):
             letter = chr(code)
-            octets = reference.octets(f"a{letter}b")
             if letter.islower() or letter in ". \t\n\r" or letter.isdigit():
-                self.assertEqual(hyphenate(octets, []), [0])
-                self.check_valid(10, octets, [])
+                self.check_no_words(10, f"a{letter}b")
             else:
+                octets = reference.octets(f"a{letter}b")
                 self.assertEqual(hyphenate(octets, []), [-21])
                 self.check([-21], 10, octets, [])
 
     def test_patterns(self):
         for patterns in ("", " ", "a", ".", "..", "1.", ".1", "1.2.3", "0a0", "1a2b3c4", ".a.b.", "a " * 300,
                          "a1" * 300, "a1 1a", "a1\t1a\r\n9."):
-            octets = reference.octets(patterns)
-            self.assertEqual(hyphenate(octets, []), [0])
-            self.assertEqual(break_text(10, octets, []), [0])
-            self.assertEqual(cost(10, octets, []), [0, 0])
-            self.assertEqual(greedy_text(10, octets, []), [0])
+            self.check_no_words(10, patterns)
 
     def test_the_patterns_are_checked_without_need_of_them(self):
         self.assertEqual(hyphenate([65], []), [-21])
@@ -145,6 +156,16 @@ class ErrorsTest(unittest.TestCase):
         self.check([-24], 10, [65, 32, 0xFF], [97])
         self.check([-24], 10, [49, 49, 32, 0x80], [97])
         self.check([-24], 10, [0xFF, 32, 65], [97])
+
+    def test_the_counts_are_checked_last(self):
+        for counts in ([], [0], [2], [4294967295], [0] * 20, [1] * 20):
+            self.assertEqual(cost_of(10, [], [97], list(counts)), [-33])
+            self.assertEqual(cost_of(9, [], [97], list(counts)), [-22])
+            self.assertEqual(cost_of(10, [65], [97], list(counts)), [-21])
+            self.assertEqual(cost_of(10, [0xFF], [97], list(counts)), [-24])
+            self.assertEqual(cost_of(10, [], [97, 0xFF], list(counts)), [-24])
+            self.assertEqual(cost_of(10, [65], [0xFF], list(counts)), [-21])
+            self.assertEqual(cost_of(81, [0xFF], [0xFF], list(counts)), [-22])
 
 
 if __name__ == "__main__":

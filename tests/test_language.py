@@ -34,6 +34,8 @@ INTERFACE = {
     "break_text": ["width", "patterns", "text"],
     "cost": ["width", "patterns", "text"],
     "greedy_text": ["width", "patterns", "text"],
+    "cost_of": ["width", "patterns", "text", "counts"],
+    "justify": ["width", "text"],
 }
 
 

@@ -3,7 +3,7 @@
 import unittest
 
 import reference
-from plainlayout.typesetting import break_text, cost, greedy_text, hyphenate
+from plainlayout.typesetting import break_text, cost, cost_of, greedy_text, hyphenate, justify
 
 PATTERNS = reference.octets("hy3ph he2n .be5t b1 1c")
 WORD = reference.octets("HyphenBetter")
@@ -14,8 +14,13 @@ HYPHENATE_CALLS = ((PATTERNS, WORD), ([], WORD), (PATTERNS, []), ([], []), ([65]
 DIVIDING_CALLS = ((10, PATTERNS, TEXT), (80, PATTERNS, TEXT), (10, [], TEXT), (10, PATTERNS, []),
                   (10, [], []), (9, PATTERNS, TEXT), (10, [65], TEXT), (10, PATTERNS, [0xFF]), (10, [0xFF], TEXT),
                   (17, reference.octets("a1 " * 200), [97] * 600))
+COST_OF_CALLS = ((10, [], TEXT, [1] * 9), (10, [], TEXT, [1, 1, 1, 1, 2, 2]), (80, [], TEXT, [3, 4]),
+                 (10, [], TEXT, [0] * 20), (10, PATTERNS, TEXT, [4294967295]), (9, PATTERNS, TEXT, [1]),
+                 (10, [65], TEXT, [1]), (10, PATTERNS, [0xFF], [1]), (10, [], [], []), (10, [], TEXT, []))
+JUSTIFY_CALLS = ((80, TEXT), (10, TEXT), (10, [97, 32, 98, 10, 10, 97, 10]), (10, []), (9, TEXT), (10, [0xFF]))
 CALLS = [(hyphenate, call) for call in HYPHENATE_CALLS]
 CALLS += [(operation, call) for operation in (break_text, cost, greedy_text) for call in DIVIDING_CALLS]
+CALLS += [(cost_of, call) for call in COST_OF_CALLS] + [(justify, call) for call in JUSTIFY_CALLS]
 
 
 class Watched(list):
@@ -74,6 +79,9 @@ class PureTest(unittest.TestCase):
         self.assertEqual(break_text(10, octets, octets), [7] + octets)
         self.assertEqual(cost(10, octets, octets), [0, 1])
         self.assertEqual(greedy_text(10, octets, octets), [7] + octets)
+        self.assertEqual(cost_of(10, octets, octets, [3]), [0])
+        octets = [1]
+        self.assertEqual(cost_of(10, [], octets, octets), [0])
         octets = reference.octets("abab")
         self.assertEqual(hyphenate(octets, octets), [0])
 
