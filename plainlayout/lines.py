@@ -1,6 +1,7 @@
 """Pieces of a text, and their divisions into lines."""
 
 from plainlayout.characters import BLANK, HYPHEN, words_of
+from plainlayout.division import best_division
 from plainlayout.hyphenation import positions_of
 from plainlayout.refusals import NotFitting
 
@@ -96,24 +97,15 @@ def line_cost(width, length, joint, is_last):
     return result
 
 
+def allowed_costs(width, pieces, start):
+    costs = []
+    for end, length in enumerate(allowed_lengths(width, pieces, start), start=start + 1):
+        costs.append(line_cost(width, length, pieces[end - 1].joint, end == len(pieces)))
+    return costs
+
+
 def best_counts(width, pieces):
-    # From the end on: what follows a line has its own best division already.
-    costs = [0] * (len(pieces) + 1)
-    firsts = [0] * len(pieces)
-    for start in range(len(pieces) - 1, -1, -1):
-        for count, length in enumerate(allowed_lengths(width, pieces, start), start=1):
-            end = start + count
-            total = line_cost(width, length, pieces[end - 1].joint, end == len(pieces)) + costs[end]
-            # Of equal costs the later one counts, as its line has more pieces.
-            if count == 1 or total <= costs[start]:
-                costs[start] = total
-                firsts[start] = count
-    counts = []
-    at = 0
-    while at < len(pieces):
-        counts.append(firsts[at])
-        at += firsts[at]
-    return counts
+    return best_division(len(pieces), lambda start: allowed_costs(width, pieces, start))
 
 
 def greedy_counts(width, pieces):

@@ -6,6 +6,11 @@ class Refusal(Exception):
         self.answer = answer
 
 
+class NotNotation(Refusal):
+    def __init__(self):
+        Refusal.__init__(self, -20)
+
+
 class NotPatterns(Refusal):
     def __init__(self):
         Refusal.__init__(self, -21)

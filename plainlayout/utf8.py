@@ -1,5 +1,6 @@
 """Texts read from UTF-8 and written in it, byte by byte."""
 
+from plainlayout.characters import is_character
 from plainlayout.refusals import NotUtf8
 
 # For each length of a sequence: its first code point; a smaller one is overlong.
@@ -38,7 +39,7 @@ def read_sequence(octets, size):
         if not 0x80 <= octet < 0xC0:
             raise NotUtf8()
         code = code * 64 + octet - 0x80
-    if code < SMALLEST[size] or 0xD800 <= code <= 0xDFFF or code > 0x10FFFF:
+    if code < SMALLEST[size] or not is_character(code):
         raise NotUtf8()
     return code
 

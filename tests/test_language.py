@@ -28,6 +28,16 @@ NODES = set("""Module Expr Call Name Load Store Attribute Constant arguments arg
     Eq NotEq Lt LtE Gt GtE Is IsNot In NotIn""".split())
 
 
+# L17: what stands nowhere as a name, a method or a value, and what is no name.
+UNUSED = set("""register mro elements open input version_info with_traceback add_note f_back tb_next co_names attrgetter
+    breakpoint builtins compile copyright credits delattr dir eval exec exit gc getattr globals hasattr help id
+    importlib license locals methodcaller os quit setattr super type vars __name__""".split())
+
+# L17: what stands in remarks and docstrings alone.
+UNWRITTEN = re.compile(r"\b(type|typing|typing_extensions|enum|Enum|IntEnum|StrEnum|Flag|IntFlag|Generic|Protocol|ABC"
+                       r"|ABCMeta|namedtuple|NamedTuple|TypedDict|TYPE_CHECKING|abstractmethod)\b"
+                       r"|dataclass|overload|contextmanager")
+
 # The functions of the document's interface, with their parameters.
 INTERFACE = {
     "hyphenate": ["patterns", "word"],
@@ -36,6 +46,8 @@ INTERFACE = {
     "greedy_text": ["width", "patterns", "text"],
     "cost_of": ["width", "patterns", "text", "counts"],
     "justify": ["width", "text"],
+    "layout": ["width", "justified", "patterns", "tree"],
+    "pages": ["width", "height", "justified", "patterns", "tree"],
 }
 
 
@@ -118,6 +130,47 @@ class LanguageTest(unittest.TestCase):
             for node in ast.walk(tree):
                 if isinstance(node, ast.Attribute):
                     self.assertNotIn(node.attr, others - OWN_METHODS, (path.name, node.lineno))
+
+    def test_the_top_of_a_file(self):
+        for path, tree in trees():
+            functions = {node.name for node in tree.body if isinstance(node, ast.FunctionDef)}
+            bound = [node.name for node in tree.body if isinstance(node, (ast.FunctionDef, ast.ClassDef))]
+            for node in tree.body[1:]:
+                self.assertIsInstance(node, (ast.ImportFrom, ast.FunctionDef, ast.ClassDef, ast.Assign), path.name)
+                if isinstance(node, ast.Assign):
+                    bound.append(node.targets[0].id)
+                    names = {part.id for part in ast.walk(node.value) if isinstance(part, ast.Name)}
+                    self.assertLessEqual(names, functions, (path.name, bound[-1]))
+                    for part in ast.walk(node.value):
+                        self.assertNotIsInstance(part, (ast.Call, ast.Attribute, ast.List, ast.Set, ast.ListComp))
+            self.assertEqual(len(bound), len(set(bound)), path.name)
+
+    def test_words_that_are_not_used(self):
+        for path, tree in trees():
+            for node in ast.walk(tree):
+                for name in (getattr(node, field, None) for field in ("id", "attr", "arg", "name")):
+                    self.assertNotIn(name, UNUSED, path.name)
+                    self.assertIsNone(isinstance(name, str) and UNWRITTEN.search(name) or None, (path.name, name))
+                if isinstance(node, ast.Constant) and isinstance(node.value, str):
+                    self.assertNotIn("%", node.value, path.name)
+                    if not node.value.endswith("."):
+                        self.assertIsNone(UNWRITTEN.search(node.value), (path.name, node.value))
+
+    def test_methods_and_values_have_names_of_their_own(self):
+        methods = set()
+        values = set()
+        for path, tree in trees():
+            for kind in (node for node in tree.body if isinstance(node, ast.ClassDef)):
+                own = [node.name for node in kind.body]
+                self.assertEqual(len(own), len(set(own)), kind.name)
+                self.assertLessEqual(len(kind.bases), 1)
+                methods |= set(own)
+            for node in ast.walk(tree):
+                if isinstance(node, ast.Attribute) and isinstance(node.ctx, ast.Store):
+                    # A value is given through a local name.
+                    self.assertIsInstance(node.value, ast.Name, path.name)
+                    values.add(node.attr)
+        self.assertEqual(methods & values, set())
 
     def test_imports(self):
         drawn = {}

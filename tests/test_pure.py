@@ -3,7 +3,7 @@
 import unittest
 
 import reference
-from plainlayout.typesetting import break_text, cost, cost_of, greedy_text, hyphenate, justify
+from plainlayout.typesetting import break_text, cost, cost_of, greedy_text, hyphenate, justify, layout, pages
 
 PATTERNS = reference.octets("hy3ph he2n .be5t b1 1c")
 WORD = reference.octets("HyphenBetter")
@@ -18,9 +18,22 @@ COST_OF_CALLS = ((10, [], TEXT, [1] * 9), (10, [], TEXT, [1, 1, 1, 1, 2, 2]), (8
                  (10, [], TEXT, [0] * 20), (10, PATTERNS, TEXT, [4294967295]), (9, PATTERNS, TEXT, [1]),
                  (10, [65], TEXT, [1]), (10, PATTERNS, [0xFF], [1]), (10, [], [], []), (10, [], TEXT, []))
 JUSTIFY_CALLS = ((80, TEXT), (10, TEXT), (10, [97, 32, 98, 10, 10, 97, 10]), (10, []), (9, TEXT), (10, [0xFF]))
+TREE = reference.octets("""(heading 1 "" "Title" (noteref "n")) ; a comment
+    (note "n" (para "A note of its own.") (bullets (item))) (para "A better hyphen-ation," (emph "\u20ac") (break) "b")
+    (quote (numbers 9 (item (code "" "a\\n\\nb")) (item (para "cbcbcbcbcbcbcbcb")))) (terms (term ("t") (rule)))
+    (table "" (caption "c [m]") (align none center) (row (cell "a") (cell "b" "c d")) (row (cell) (cell "e")))
+    (figure "" "x" "y") (group (class "k") (note "m" (para "m")) (para "one" (link "" "two") "[m]"))""")
+TABLE = reference.octets('(table "" (caption "x") (align none right) (row (cell "abc") (cell "d e f g h")))')
+TREES = (TREE, TABLE, [], reference.octets("(para"), [0xFF], reference.octets("(quote" * 16 + ")" * 16),
+         reference.octets('(code "" "' + "\\n" * 250 + 'a")'))
+LAYOUT_CALLS = [(width, justified, patterns, tree) for width in (10, 30, 81) for justified in (0, 1, 2)
+                for patterns in (PATTERNS, [65], [0xFF]) for tree in TREES]
+PAGES_CALLS = [(width, height, justified, patterns, tree) for width, justified, patterns, tree in LAYOUT_CALLS
+               for height in (4, 7, 61)]
 CALLS = [(hyphenate, call) for call in HYPHENATE_CALLS]
 CALLS += [(operation, call) for operation in (break_text, cost, greedy_text) for call in DIVIDING_CALLS]
 CALLS += [(cost_of, call) for call in COST_OF_CALLS] + [(justify, call) for call in JUSTIFY_CALLS]
+CALLS += [(layout, call) for call in LAYOUT_CALLS] + [(pages, call) for call in PAGES_CALLS]
 
 
 class Watched(list):
@@ -84,6 +97,9 @@ class PureTest(unittest.TestCase):
         self.assertEqual(cost_of(10, [], octets, octets), [0])
         octets = reference.octets("abab")
         self.assertEqual(hyphenate(octets, octets), [0])
+        octets = []
+        self.assertEqual(layout(10, 0, octets, octets), [0])
+        self.assertEqual(pages(10, 4, 0, octets, octets), [0])
 
 
 if __name__ == "__main__":
