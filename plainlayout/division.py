@@ -1,4 +1,4 @@
-"""The best division: of pieces into lines, and of lines into pages."""
+"""The best division, and its costs: of pieces into lines, and of lines into pages."""
 
 
 def best_division(size, costs_from):
@@ -19,3 +19,12 @@ def best_division(size, costs_from):
         counts.append(firsts[at])
         at += firsts[at]
     return counts
+
+
+def filling_cost(room, size, is_last, excess_cost):
+    # Of a line in its width, and of a page in its height.
+    if size > room:
+        return excess_cost * (size - room)
+    if is_last:
+        return 0
+    return (room - size) ** 2

@@ -1,7 +1,7 @@
 """Pieces of a text, and their divisions into lines."""
 
 from plainlayout.characters import BLANK, HYPHEN, words_of
-from plainlayout.division import best_division
+from plainlayout.division import best_division, filling_cost
 from plainlayout.hyphenation import positions_of
 from plainlayout.refusals import NotFitting
 
@@ -86,12 +86,7 @@ def allowed_lengths(width, pieces, start):
 
 
 def line_cost(width, length, joint, is_last):
-    if length > width:
-        result = EXCESS_COST * (length - width)
-    elif is_last:
-        result = 0
-    else:
-        result = (width - length) ** 2
+    result = filling_cost(width, length, is_last, EXCESS_COST)
     if joint == HYPHEN_JOINT:
         result += HYPHEN_COST
     return result

@@ -1,7 +1,7 @@
 """A document's lines divided into pages, with notes at the foot."""
 
 from plainlayout.characters import codes_of
-from plainlayout.division import best_division
+from plainlayout.division import best_division, filling_cost
 from plainlayout.flow import lines_of_blocks
 from plainlayout.notes import notes_of, notes_of_line
 
@@ -12,9 +12,10 @@ FOOT_MARK = "-----"
 
 class Page:
     # Its body and its foot are texts of lines.
-    def __init__(self, body, foot):
+    def __init__(self, body, foot, cost):
         self.body = body
         self.foot = foot
+        self.cost = cost
 
 
 def pages_of(setting, width, height, blocks):
@@ -25,7 +26,7 @@ def pages_of(setting, width, height, blocks):
     start = 0
     for count in counts:
         end = start + count
-        result.append(Page(body_of(lines[start:end]), foot_of(notes[start:end])))
+        result.append(page_of(height, lines[start:end], notes[start:end], end == len(lines)))
         start = end
     return result
 
@@ -72,15 +73,16 @@ def foot_size(note_size):
 
 
 def page_cost(height, size, kept, is_last):
-    if size > height:
-        result = EXCESS_COST * (size - height)
-    elif is_last:
-        result = 0
-    else:
-        result = (height - size) ** 2
+    result = filling_cost(height, size, is_last, EXCESS_COST)
     if kept and not is_last:
         result += KEPT_COST
     return result
+
+
+def page_of(height, lines, notes, is_last):
+    body = body_of(lines)
+    foot = foot_of(notes)
+    return Page(body, foot, page_cost(height, len(body) + len(foot), lines[-1].kept, is_last))
 
 
 def body_of(lines):

@@ -4,6 +4,7 @@ from plainlayout.blocks import Block
 from plainlayout.characters import BLANK, HYPHEN, codes_of, split_at_line_feeds, words_of
 from plainlayout.flow import Line, free_line, inline_lines, kept_line
 from plainlayout.lines import line_text, pieces_of
+from plainlayout.refusals import NotFitting
 
 SEPARATOR = " | "
 CROSSING = "-+-"
@@ -54,6 +55,12 @@ class Table(Block):
                 row.extend(codes_of(SEPARATOR))
             row.extend(aligned(alignment, width, text))
         return without_blanks_at_the_end(row)
+
+
+def only_table(blocks):
+    if len(blocks) != 1 or not isinstance(blocks[0], Table):
+        raise NotFitting()
+    return blocks[0]
 
 
 def smallest_width(patterns, cell):

@@ -8,6 +8,7 @@ from plainlayout.justification import justified_line
 from plainlayout.lines import best_counts, division_cost, greedy_counts, lines_of, pieces_of
 from plainlayout.paging import page_lines, pages_of
 from plainlayout.refusals import OutOfRange, Refusal
+from plainlayout.tables import only_table
 from plainlayout.utf8 import read_utf8, write_utf8
 
 LEAST_WIDTH = 10
@@ -88,6 +89,28 @@ def pages(width, height, justified, patterns, tree):
             lines.append([FORM_FEED])
         lines.extend(page_lines(height, page))
     return answer_lines(lines)
+
+
+def page_counts(width, height, justified, patterns, tree):
+    try:
+        divided = checked_pages(width, height, justified, patterns, tree)
+    except Refusal as refusal:
+        return [refusal.answer]
+    answer = [len(divided), sum([page.cost for page in divided])]
+    for page in divided:
+        answer.extend([len(page.body), len(page.foot)])
+    return answer
+
+
+def columns(width, patterns, tree):
+    try:
+        check_width(width)
+        known = patterns_of(read_utf8(patterns))
+        table = only_table(document_of(tree))
+    except Refusal as refusal:
+        return [refusal.answer]
+    widths = table.column_widths(known, width)
+    return [len(widths)] + widths
 
 
 def checked_pieces(width, patterns, text):

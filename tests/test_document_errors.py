@@ -3,7 +3,7 @@
 import unittest
 
 import reference
-from plainlayout.typesetting import layout, pages
+from plainlayout.typesetting import columns, layout, page_counts, pages
 from test_errors import NOT_PATTERNS, NOT_UTF8, WRONG_WIDTHS
 
 WRONG_HEIGHTS = (0, 1, 3, 61, 62, 255, 4294967295)
@@ -16,19 +16,23 @@ def with_justified(justified):
     return lambda width, patterns, tree: layout(width, justified, patterns, tree)
 
 
-def with_height(height, justified):
-    return lambda width, patterns, tree: pages(width, height, justified, patterns, tree)
+def with_height(operation, height, justified):
+    return lambda width, patterns, tree: operation(width, height, justified, patterns, tree)
 
 
 # Each one takes a width, patterns and a tree; the other integers are inside of their ranges.
-OPERATIONS = ((with_justified(0), with_justified(1), with_height(4, 0), with_height(60, 1)))
+OPERATIONS = (with_justified(0), with_justified(1), with_height(pages, 4, 0), with_height(pages, 60, 1),
+              with_height(page_counts, 4, 0), with_height(page_counts, 60, 1), columns)
 # Each one takes patterns and a tree; an integer is outside of its range.
 OUT_OF_RANGE = (
-    [lambda patterns, tree, width=width: layout(width, 0, patterns, tree) for width in WRONG_WIDTHS]
-    + [lambda patterns, tree, wrong=wrong: layout(10, wrong, patterns, tree) for wrong in WRONG_JUSTIFIED]
-    + [lambda patterns, tree, width=width: pages(width, 4, 0, patterns, tree) for width in WRONG_WIDTHS]
-    + [lambda patterns, tree, height=height: pages(10, height, 0, patterns, tree) for height in WRONG_HEIGHTS]
-    + [lambda patterns, tree, wrong=wrong: pages(10, 4, wrong, patterns, tree) for wrong in WRONG_JUSTIFIED])
+    [lambda patterns, tree, width=width: columns(width, patterns, tree) for width in WRONG_WIDTHS]
+    + [lambda patterns, tree, width=width: layout(width, 0, patterns, tree) for width in WRONG_WIDTHS]
+    + [lambda patterns, tree, wrong=wrong: layout(10, wrong, patterns, tree) for wrong in WRONG_JUSTIFIED])
+for paged in (pages, page_counts):
+    OUT_OF_RANGE += (
+        [lambda patterns, tree, paged=paged, width=width: paged(width, 4, 0, patterns, tree) for width in WRONG_WIDTHS]
+        + [lambda patterns, tree, paged=paged, high=high: paged(10, high, 0, patterns, tree) for high in WRONG_HEIGHTS]
+        + [lambda patterns, tree, paged=paged, one=one: paged(10, 4, one, patterns, tree) for one in WRONG_JUSTIFIED])
 
 
 class DocumentErrorsTest(unittest.TestCase):
@@ -48,6 +52,7 @@ class DocumentErrorsTest(unittest.TestCase):
         for wrong in (4294967295, 0):
             self.assertEqual(layout(wrong, 4294967295, [], []), [-22])
             self.assertEqual(pages(wrong, wrong, 4294967295, [], []), [-22])
+            self.assertEqual(page_counts(wrong, wrong, 4294967295, [], []), [-22])
 
     def test_integers_are_checked_first(self):
         for operation in OUT_OF_RANGE:
@@ -61,8 +66,11 @@ class DocumentErrorsTest(unittest.TestCase):
         for width in range(10, 81):
             self.assertEqual(layout(width, width % 2, [], octets), wanted)
             self.assertEqual(pages(width, 4, width % 2, [], octets), wanted)
+            self.assertEqual(page_counts(width, 4, width % 2, [], octets), [1, 0, 2, 0])
+            self.assertEqual(columns(width, [], octets), [1, 1])
         for height in range(4, 61):
             self.assertEqual(pages(10, height, 0, [], octets), wanted)
+            self.assertEqual(page_counts(10, height, 0, [], octets), [1, 0, 2, 0])
 
     def test_patterns_that_are_not_utf8(self):
         for wrong in NOT_UTF8:
@@ -111,6 +119,23 @@ class DocumentErrorsTest(unittest.TestCase):
         for tree in ('(note "n" (para 1))', '(note "n" (note "n" a))', '(heading 1 "a b")', '(code "a b" "")',
                      '(para (link 1))', '(group (class "a b"))'):
             self.check([-20], "", tree)
+
+    def test_no_table_comes_last(self):
+        for tree in ("", "(rule)", f"{TABLE} {TABLE}", f"(quote {TABLE})", f'{TABLE} (note "a")'):
+            octets = reference.octets(tree)
+            self.assertEqual(columns(10, [], octets), [-33], tree)
+            self.assertEqual(columns(10, [97, 49], octets), [-33], tree)
+            self.assertEqual(columns(10, [0xFF], octets), [-24], tree)
+            self.assertEqual(columns(10, [65], octets), [-21], tree)
+            self.assertEqual(columns(10, [], octets + [40]), [-20], tree)
+            for width in WRONG_WIDTHS:
+                self.assertEqual(columns(width, [], octets), [-22], tree)
+
+    def test_only_columns_ask_for_a_table(self):
+        for tree in ("", "(rule)", f"{TABLE} {TABLE}", f"(quote {TABLE})"):
+            for operation in OPERATIONS:
+                if operation is not columns:
+                    self.assertGreaterEqual(operation(10, [], reference.octets(tree))[0], 0)
 
     def test_an_error_is_its_code_alone(self):
         for operation in OUT_OF_RANGE:

@@ -48,6 +48,8 @@ INTERFACE = {
     "justify": ["width", "text"],
     "layout": ["width", "justified", "patterns", "tree"],
     "pages": ["width", "height", "justified", "patterns", "tree"],
+    "page_counts": ["width", "height", "justified", "patterns", "tree"],
+    "columns": ["width", "patterns", "tree"],
 }
 
 

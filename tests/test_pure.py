@@ -3,7 +3,8 @@
 import unittest
 
 import reference
-from plainlayout.typesetting import break_text, cost, cost_of, greedy_text, hyphenate, justify, layout, pages
+from plainlayout.typesetting import break_text, columns, cost, cost_of, greedy_text, hyphenate, justify, layout
+from plainlayout.typesetting import page_counts, pages
 
 PATTERNS = reference.octets("hy3ph he2n .be5t b1 1c")
 WORD = reference.octets("HyphenBetter")
@@ -28,12 +29,14 @@ TREES = (TREE, TABLE, [], reference.octets("(para"), [0xFF], reference.octets("(
          reference.octets('(code "" "' + "\\n" * 250 + 'a")'))
 LAYOUT_CALLS = [(width, justified, patterns, tree) for width in (10, 30, 81) for justified in (0, 1, 2)
                 for patterns in (PATTERNS, [65], [0xFF]) for tree in TREES]
+COLUMNS_CALLS = [(width, patterns, tree) for width, justified, patterns, tree in LAYOUT_CALLS if justified == 0]
 PAGES_CALLS = [(width, height, justified, patterns, tree) for width, justified, patterns, tree in LAYOUT_CALLS
                for height in (4, 7, 61)]
 CALLS = [(hyphenate, call) for call in HYPHENATE_CALLS]
 CALLS += [(operation, call) for operation in (break_text, cost, greedy_text) for call in DIVIDING_CALLS]
 CALLS += [(cost_of, call) for call in COST_OF_CALLS] + [(justify, call) for call in JUSTIFY_CALLS]
 CALLS += [(layout, call) for call in LAYOUT_CALLS] + [(pages, call) for call in PAGES_CALLS]
+CALLS += [(page_counts, call) for call in PAGES_CALLS] + [(columns, call) for call in COLUMNS_CALLS]
 
 
 class Watched(list):
@@ -100,6 +103,8 @@ class PureTest(unittest.TestCase):
         octets = []
         self.assertEqual(layout(10, 0, octets, octets), [0])
         self.assertEqual(pages(10, 4, 0, octets, octets), [0])
+        self.assertEqual(page_counts(10, 4, 0, octets, octets), [0, 0])
+        self.assertEqual(columns(10, octets, octets), [-33])
 
 
 if __name__ == "__main__":
